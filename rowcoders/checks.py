@@ -1,6 +1,6 @@
 """What arguments may be, and the errors for those that may not."""
 
-from rowcoders.errors import InvalidChain, InvalidCount, InvalidRow, InvalidSize
+from rowcoders.errors import InvalidChain, InvalidCode, InvalidCount, InvalidRow, InvalidSize
 from rowcoders.steps import coder_names
 
 LONGEST_ROW = 40
@@ -48,6 +48,12 @@ def check_row(k, row):
     """Raise InvalidRow if row is no row."""
     if not is_list_of_signs(k, row, LONGEST_ROW):
         raise InvalidRow("a row is a list of at most 40 signs")
+
+
+def check_code(k, code):
+    """Raise InvalidCode if code is no code."""
+    if not is_list_of_signs(k, code, LONGEST_CODE):
+        raise InvalidCode("a code is a list of at most 200 signs")
 
 
 def check_count(count, greatest):

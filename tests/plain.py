@@ -3,6 +3,8 @@
 Nothing here keeps a state: each coder is read off the whole row, as its words say.
 """
 
+import random
+from functools import cache
 from itertools import product
 
 from rowcoders.coders import family
@@ -17,6 +19,20 @@ def all_rows(k, many):
 
 def rows_up_to(k, many):
     return [row for length in range(many + 1) for row in all_rows(k, length)]
+
+
+def random_row(chance, k, length):
+    """A row with runs of the same signs, which are long enough for counts."""
+    row = []
+    while len(row) < length:
+        row += [chance.randrange(k)] * chance.choice((1, 1, 2, 3, 4, 5, 9))
+    return row[:length]
+
+
+def random_rows(k, many):
+    chance = random.Random(k)
+    rows = [[], [0] * 40, [k - 1] * 40, ([0, 0, 0, 1] * 10), [chance.randrange(k) for _ in range(40)]]
+    return rows + [random_row(chance, k, chance.randrange(41)) for _ in range(many)]
 
 
 def joined(lists):
@@ -99,3 +115,18 @@ def chain_along(k, chain, signs):
 def plain_code(k, chain, signs):
     written, end = chain_along(k, chain, signs)
     return joined(written) + end
+
+
+# So many signs have the rows that are listed, at most.
+LISTED = {2: 7, 3: 5}
+
+
+@cache
+def listed_rows(k):
+    return [tuple(row) for row in rows_up_to(k, LISTED[k])]
+
+
+@cache
+def listed_codes(k, chain):
+    """The codes of the listed rows, in the order of the rows."""
+    return [tuple(plain_code(k, chain, list(row))) for row in listed_rows(k)]

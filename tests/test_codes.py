@@ -1,25 +1,12 @@
 """Points 0.2 b, 0.6 and 1.2: codes of chains, and what they write along rows."""
 
-import random
 import unittest
 from copy import deepcopy
 
 from rowcoders.coders import code_of, coders, family, written_along
 from rowcoders.errors import InvalidChain, InvalidRow, InvalidSize
-from tests.plain import SIZES, chain_along, joined, rows_up_to
+from tests.plain import SIZES, chain_along, joined, random_rows, rows_up_to
 from tests.wrong import WRONG_SIZES, assert_first_error, wrong_chains, wrong_rows
-
-
-def random_rows(k, many):
-    chance = random.Random(k)
-    rows = [[], [0] * 40, [k - 1] * 40, ([0, 0, 0, 1] * 10), [chance.randrange(k) for _ in range(40)]]
-    for _ in range(many):
-        row = []
-        length = chance.randrange(41)
-        while len(row) < length:
-            row += [chance.randrange(k)] * chance.choice((1, 1, 2, 3, 4, 5, 9))
-        rows.append(row[:length])
-    return rows
 
 
 class Codes(unittest.TestCase):

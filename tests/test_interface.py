@@ -22,6 +22,22 @@ INTERFACE = {
         "count_lengths": ["k", "chain", "many"],
         "row_of_length": ["k", "chain", "many", "length"],
     },
+    "rowcoders.likeness": {
+        "parting_row": ["k", "one", "other"],
+        "same_as": ["k", "chain"],
+        "failing_row": ["k", "one", "other"],
+    },
+    "rowcoders.twins": {
+        "twins": ["k", "chain"],
+    },
+    "rowcoders.back": {
+        "first_row": ["k", "chain", "code"],
+        "count_rows": ["k", "chain", "code", "many"],
+    },
+    "rowcoders.reading": {
+        "could_code": ["k", "row", "code"],
+        "could_write": ["k", "code"],
+    },
 }
 
 

@@ -36,6 +36,11 @@ WRONG_CHAINS = ANYTHING + (
 
 WRONG_ROWS = ANYTHING + (0, 1, 2, (), (0,) * 3, "01", [0] * 41, [1] * 41, [0] * 100, [0, 1, 3], [3], [0, -1], [0] * 40 + [""])
 
+WRONG_CODES = ANYTHING + (
+    0, 1, 2, (), (0,) * 3, "01", [0] * 201, [1] * 201, [0] * 1000, [0, 1, 3], [3], [0, -1],
+    [0] * 199 + [""], [0] * 199 + [True], [0] * 200 + [None], [[0] * 200],
+)
+
 WRONG_COUNTS = ANYTHING + ([], (), [0], [3], (3,), "3", 1000)
 
 
@@ -45,6 +50,10 @@ def wrong_chains(k):
 
 def wrong_rows(k):
     return WRONG_ROWS if k == 3 else WRONG_ROWS + ([2], [0, 2], [0] * 39 + [2])
+
+
+def wrong_codes(k):
+    return WRONG_CODES if k == 3 else WRONG_CODES + ([2], [0, 2], [0] * 199 + [2])
 
 
 def wrong_counts(greatest):
