@@ -2,6 +2,8 @@ import importlib
 import inspect
 import unittest
 
+from rowcoders.desk import Desk
+
 INTERFACE = {
     "rowcoders.coders": {
         "is_row": ["k", "candidate"],
@@ -38,7 +40,38 @@ INTERFACE = {
         "could_code": ["k", "row", "code"],
         "could_write": ["k", "code"],
     },
+    "rowcoders.hidden": {
+        "fewest_signs": ["k", "chains"],
+        "best_sign": ["k", "chains", "row", "written"],
+    },
+    "rowcoders.texts": {
+        "format_row": ["k", "row"],
+        "parse_row": ["k", "text"],
+        "format_chain": ["k", "chain"],
+        "parse_chain": ["k", "text"],
+    },
+    "rowcoders.naive": {
+        "naive_twins": ["k", "chain", "many"],
+        "naive_parting": ["k", "one", "other", "many"],
+    },
 }
+
+DESK = {
+    "__init__": ["self", "k", "chain"],
+    "__eq__": ["self", "other"],
+    "__len__": ["self"],
+    "put": ["self", "sign"],
+    "row": ["self"],
+    "written": ["self"],
+    "code": ["self"],
+    "undo": ["self"],
+    "redo": ["self"],
+    "copy": ["self"],
+}
+
+
+def parameters_of(function):
+    return list(inspect.signature(function).parameters.values())
 
 
 class Interface(unittest.TestCase):
@@ -48,9 +81,21 @@ class Interface(unittest.TestCase):
                 with self.subTest(module=module, name=name):
                     function = getattr(importlib.import_module(module), name)
                     self.assertEqual(function.__module__, module)
-                    parameters = inspect.signature(function).parameters.values()
-                    self.assertEqual([one.name for one in parameters], arguments)
-                    self.assertTrue(all(one.default is one.empty for one in parameters))
+                    self.assertTrue(inspect.isfunction(function))
+                    self.assert_arguments(function, arguments)
+
+    def assert_arguments(self, function, arguments):
+        parameters = parameters_of(function)
+        self.assertEqual([one.name for one in parameters], arguments)
+        self.assertTrue(all(one.default is one.empty for one in parameters))
+
+    def test_the_desk(self):
+        self.assertEqual((Desk.__module__, Desk.__bases__), ("rowcoders.desk", (object,)))
+        for name, arguments in DESK.items():
+            with self.subTest(name=name):
+                # The class itself defines it.
+                self.assertIn(name, vars(Desk))
+                self.assert_arguments(vars(Desk)[name], arguments)
 
 
 if __name__ == "__main__":

@@ -119,6 +119,38 @@ class Language(unittest.TestCase):
                          if isinstance(node.value, (float, complex)))
         self.assert_none(found, "L6, L7")
 
+    def test_double_underscores(self):
+        found = []
+        for path, _, tree in trees():
+            names = [(node.name, node.lineno) for node in nodes(tree, ast.FunctionDef)]
+            names += [(node.attr, node.lineno) for node in nodes(tree, ast.Attribute)]
+            names += list(bound_names(tree))
+            found.extend((path, line, name) for name, line in names
+                         if name.startswith("__") and name not in ("__init__", "__eq__", "__len__"))
+        self.assert_none(found, "L5, L8")
+
+    def test_desks_are_compared_so_no_generators(self):
+        found = []
+        for path, _, tree in trees():
+            generators = nodes(tree, (ast.GeneratorExp, ast.Yield, ast.YieldFrom))
+            found.extend((path, node.lineno, "generator") for node in generators)
+            found.extend((path, node.lineno, "sort") for node in nodes(tree, ast.Attribute) if node.attr == "sort")
+        self.assert_none(found, "L7, L25")
+
+    def test_attributes_are_assigned_in_the_package_alone(self):
+        """Each attribute that is read is assigned by a class, or is a method; none is both."""
+        assigned, methods, read = set(), set(), []
+        for path, _, tree in trees():
+            for node in nodes(tree, ast.ClassDef):
+                methods |= {part.name for part in node.body if isinstance(part, ast.FunctionDef)}
+            for node in nodes(tree, ast.Attribute):
+                if isinstance(node.ctx, ast.Store):
+                    assigned.add(node.attr)
+                else:
+                    read.append((path, node.lineno, node.attr))
+        self.assertEqual(assigned & methods, set(), "L18")
+        self.assert_none([told for told in read if told[2] not in assigned | methods | METHODS], "L18")
+
     def test_builtins(self):
         found = []
         for path, _, tree in trees():

@@ -41,6 +41,44 @@ WRONG_CODES = ANYTHING + (
     [0] * 199 + [""], [0] * 199 + [True], [0] * 200 + [None], [[0] * 200],
 )
 
+# As chains of hidden.py: not a tuple, none, too many, not ascending, one twice, or no chains.
+WRONG_CHAIN_TUPLES = tuple(value for value in ANYTHING if value != (("same",),)) + (
+    0, 2, [], (), ("same", "delta"), [("same",)], [("delta",), ("same",)], (["delta"],), (["delta"], ["same"]),
+    (("same",), ("same",)), (("same",), ("delta",)), (("delta",), ("same",), ("same",)),
+    (("delta",), ("twos",), ("same",)), (("twos",), ("delta", "same")), (("delta", "same"), ("delta",)),
+    (("delta",), ("double",), ("drops",), ("front",)), (("delta",),) * 4,
+    (("delta",), None), (("delta",), True), (None, ("delta",)), (("delta",), "same"), (("delta",), ["same"]),
+    (("delta",), ()), ((), ("delta",)), (("delta",), ("none",)), (("delta",), ("same", True)), ("delta|same",),
+    (("delta", "same", "twos"),), ((("delta",),),), (("delta",), ("flags3",)), (("",), ("delta",)),
+)
+
+WRONG_WRITTEN = tuple(value for value in ANYTHING if value not in ([[0]], [[]])) + (
+    0, 1, (), ([0],), ([],), [0], [0, 0], [[0], 0], [0, [0]], [[0], None], [[0], (0,)], [(0,), [0]], [[0], "0"],
+    [[True]], [[0, False]], [[0], [True]], [[None]], [["0"]], [[[0]]], [[[]]], [[()]], [[-1]], [[3]], [[0], [1, 3]],
+    [[]] * 41, [[0]] * 41, [[0]] * 100, [[0]] * 40 + [None], [[0]] * 39 + [[True]], "0", "[[0]]",
+)
+
+WRONG_SIGNS = ANYTHING + (3, 4, 10, [0], (0,), [1], (), [], "1", "k", [[0]], ((1,),))
+
+NO_TEXTS = tuple(value for value in ANYTHING if not isinstance(value, str)) + (0, 1, 2, [], (), ["0", "1"], ("0", "1"))
+
+# Texts with figures and letters of other scripts are written by their numbers.
+WRONG_ROW_TEXTS = NO_TEXTS + (
+    "3", "9", "03", "x", "O", "l", " ", "0 ", " 0", "0 1", "0\n", "\n", "\t0", "+1", "-1", "0,1", "0|1", "0.", "0x1",
+    "1e1", "0_1", "_", "\0", "[]", "[0]", "None", "True", "same", "''", "0" * 41, "1" * 200, "0" * 40 + " ",
+    "\u0660", "\u0967", "\uff10", "\u00b2", "\u2070", "\u2460", "\u4e00", "\u06f1", "0\u200b", "\u00a0", "0\u0301",
+    "\U0001d7ce",
+)
+
+WRONG_CHAIN_TEXTS = NO_TEXTS + (
+    "", "|", "||", "same|", "|same", "same||same", "|same|", "same|same|same", "same|same|", "Same", "SAME", "sAme",
+    " same", "same ", "same |same", "same| same", "same | same", "same\n", "\nsame", "same;same", "same,same",
+    "samesame", "same/same", "sam", "ame", "s", " ", "flags", "flags3", "flags00", "flags-1", "flags 0", "flags|0", "none",
+    "same|none", "none|same", "('same',)", "\"same\"", "same\0", "0", "2",
+    "\u017fame", "s\u0430me", "flags\u0660", "flags\u00b2", "flags\uff10", "same\u200b", "same\u00a0", "same\u2223same",
+    "same\uff5csame", "tw\u03bfs",
+)
+
 WRONG_COUNTS = ANYTHING + ([], (), [0], [3], (3,), "3", 1000)
 
 
@@ -54,6 +92,30 @@ def wrong_rows(k):
 
 def wrong_codes(k):
     return WRONG_CODES if k == 3 else WRONG_CODES + ([2], [0, 2], [0] * 199 + [2])
+
+
+def wrong_chain_tuples(k):
+    if k == 3:
+        return WRONG_CHAIN_TUPLES
+    return WRONG_CHAIN_TUPLES + (
+        (("flags2",),), (("delta",), ("flags2",)), (("delta",), ("delta", "flags2"), ("same",)),
+    )
+
+
+def wrong_written(k):
+    return WRONG_WRITTEN if k == 3 else WRONG_WRITTEN + ([[2]], [[0], [0, 2]], [[0]] * 39 + [[2]])
+
+
+def wrong_signs(k):
+    return WRONG_SIGNS + (k,)
+
+
+def wrong_row_texts(k):
+    return WRONG_ROW_TEXTS if k == 3 else WRONG_ROW_TEXTS + ("2", "02", "0" * 39 + "2")
+
+
+def wrong_chain_texts(k):
+    return WRONG_CHAIN_TEXTS if k == 3 else WRONG_CHAIN_TEXTS + ("flags2", "same|flags2", "flags2|same")
 
 
 def wrong_counts(greatest):
